@@ -1,0 +1,93 @@
+package impl
+
+import "slices"
+
+// MaxTrace is the largest number of keys of a trace.
+const MaxTrace = 24
+
+// MaxRoom is the largest room of a cache.
+const MaxRoom = 8
+
+// validRoom reports whether a number is the room of a cache.
+func validRoom(room int) bool {
+	return 1 <= room && room <= MaxRoom
+}
+
+// ValidTrace reports whether a trace of keys is valid.
+func ValidTrace(t []int) bool {
+	if len(t) > MaxTrace {
+		return false
+	}
+	for _, key := range t {
+		if !validKey(key) {
+			return false
+		}
+	}
+	return true
+}
+
+// ValidKeys reports whether the keys of a cache are valid.
+func ValidKeys(list []int, room int) bool {
+	if !validRoom(room) || len(list) > room {
+		return false
+	}
+	for i, key := range list {
+		if !validKey(key) || slices.Contains(list[:i], key) {
+			return false
+		}
+	}
+	return true
+}
+
+// UseRecent returns a cache after a key was used, the least recent one being left out.
+func UseRecent(list []int, room int, key int) ([]int, bool) {
+	if !ValidKeys(list, room) || !validKey(key) {
+		return nil, false
+	}
+	out := []int{key}
+	for _, other := range list {
+		if other != key {
+			out = append(out, other)
+		}
+	}
+	return out[:min(len(out), room)], slices.Contains(list, key)
+}
+
+// RunRecent returns a cache after a trace.
+func RunRecent(t []int, room int) ([]int, int) {
+	return runTrace(t, room, UseRecent)
+}
+
+// UseFirst returns a cache after a key was used, the first one being left out.
+func UseFirst(list []int, room int, key int) ([]int, bool) {
+	if !ValidKeys(list, room) || !validKey(key) {
+		return nil, false
+	}
+	out := append([]int{}, list...)
+	if slices.Contains(list, key) {
+		return out, true
+	}
+	out = append(out, key)
+	return out[max(len(out)-room, 0):], false
+}
+
+// RunFirst returns a cache after a trace.
+func RunFirst(t []int, room int) ([]int, int) {
+	return runTrace(t, room, UseFirst)
+}
+
+// runTrace uses all keys of a trace in a cache that is empty at first, and counts those that were there.
+func runTrace(t []int, room int, use func(list []int, room int, key int) ([]int, bool)) ([]int, int) {
+	if !ValidTrace(t) || !validRoom(room) {
+		return nil, -1
+	}
+	list, hits := []int{}, 0
+	for _, key := range t {
+		next, hit := use(list, room, key)
+		if hit {
+			hits++
+		}
+		list = next
+	}
+	return list, hits
+}
