@@ -44,13 +44,19 @@ func UseRecent(list []int, room int, key int) ([]int, bool) {
 	if !ValidKeys(list, room) || !validKey(key) {
 		return nil, false
 	}
-	out := []int{key}
+	out := append([]int{key}, withoutKey(list, key)...)
+	return out[:min(len(out), room)], slices.Contains(list, key)
+}
+
+// withoutKey returns the keys of a list but one, in order.
+func withoutKey(list []int, key int) []int {
+	out := []int{}
 	for _, other := range list {
 		if other != key {
 			out = append(out, other)
 		}
 	}
-	return out[:min(len(out), room)], slices.Contains(list, key)
+	return out
 }
 
 // RunRecent returns a cache after a trace.
@@ -81,13 +87,20 @@ func runTrace(t []int, room int, use func(list []int, room int, key int) ([]int,
 	if !ValidTrace(t) || !validRoom(room) {
 		return nil, -1
 	}
-	list, hits := []int{}, 0
+	return useAll(t, []int{}, func(list []int, key int) ([]int, bool) {
+		return use(list, room, key)
+	})
+}
+
+// useAll uses all keys of a trace in a cache of any kind, and counts those that were there.
+func useAll[Cache any](t []int, cache Cache, use func(cache Cache, key int) (Cache, bool)) (Cache, int) {
+	hits := 0
 	for _, key := range t {
-		next, hit := use(list, room, key)
+		next, hit := use(cache, key)
 		if hit {
 			hits++
 		}
-		list = next
+		cache = next
 	}
-	return list, hits
+	return cache, hits
 }
