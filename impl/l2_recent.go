@@ -28,9 +28,11 @@ func ValidTrace(t []int) bool {
 
 // ValidKeys reports whether the keys of a cache are valid.
 func ValidKeys(list []int, room int) bool {
-	if !validRoom(room) || len(list) > room {
-		return false
-	}
+	return validRoom(room) && len(list) <= room && differentKeys(list)
+}
+
+// differentKeys reports whether a list has only keys, each of them once.
+func differentKeys(list []int) bool {
 	for i, key := range list {
 		if !validKey(key) || slices.Contains(list[:i], key) {
 			return false
@@ -44,7 +46,7 @@ func UseRecent(list []int, room int, key int) ([]int, bool) {
 	if !ValidKeys(list, room) || !validKey(key) {
 		return nil, false
 	}
-	out := append([]int{key}, withoutKey(list, key)...)
+	out := putFirst(withoutKey(list, key), key)
 	return out[:min(len(out), room)], slices.Contains(list, key)
 }
 
@@ -57,6 +59,11 @@ func withoutKey(list []int, key int) []int {
 		}
 	}
 	return out
+}
+
+// putFirst returns a list with a key more, at its beginning.
+func putFirst(list []int, key int) []int {
+	return append([]int{key}, list...)
 }
 
 // RunRecent returns a cache after a trace.

@@ -106,41 +106,55 @@ func begins(list []int, with []int) bool {
 	return len(with) <= len(list) && slices.Equal(list[:len(with)], with)
 }
 
+// number returns the number itself: the mark of a place in a list of numbers.
+func number(n int) int { return n }
+
 // withSpare returns the numbers of a list in new memory with marked places behind them, so that a write there is seen.
 func withSpare(list []int) []int {
-	out := append(make([]int, 0, len(list)+8), list...)
-	fill(out[len(out):cap(out)], -7)
+	return withSpareOf(list, -7)
+}
+
+// withSpareOf is withSpare for lists of any kind.
+func withSpareOf[E any](list []E, mark E) []E {
+	out := append(make([]E, 0, len(list)+8), list...)
+	fill(out[len(out):cap(out)], mark)
 	return out
 }
 
-// fill sets all numbers of a list.
-func fill(list []int, n int) {
+// fill sets all elements of a list.
+func fill[E any](list []E, x E) {
 	for i := range list {
-		list[i] = n
+		list[i] = x
 	}
 }
 
 // checkApart fails if a call modifies its argument, if its result shares memory with it, or if it keeps memory for the next call.
 func checkApart(t *testing.T, name string, list []int, call func(list []int) []int) {
 	t.Helper()
-	given := withSpare(list)
+	checkApartOf(t, name, list, number, number, call)
+}
+
+// checkApartOf is checkApart for lists of any kind; the marks are elements that no call returns.
+func checkApartOf[A comparable, R comparable](t *testing.T, name string, list []A, mark func(n int) A, resultMark func(n int) R, call func(list []A) []R) {
+	t.Helper()
+	given := withSpareOf(list, mark(-7))
 	out := call(given)
-	want := withSpare(list)
+	want := withSpareOf(list, mark(-7))
 	if !slices.Equal(given[:cap(given)], want[:cap(want)]) {
 		t.Errorf("%s of %v modifies its argument: %v", name, list, given[:cap(given)])
 	}
 	result := slices.Clone(out)
-	fill(given[:cap(given)], -9)
+	fill(given[:cap(given)], mark(-9))
 	if !slices.Equal(out, result) {
 		t.Errorf("%s of %v: the result %v follows its argument", name, list, result)
 	}
-	fill(out[:cap(out)], -8)
-	for _, n := range given[:cap(given)] {
-		if n != -9 {
+	fill(out[:cap(out)], resultMark(-8))
+	for _, x := range given[:cap(given)] {
+		if x != mark(-9) {
 			t.Fatalf("%s of %v: the argument follows its result", name, list)
 		}
 	}
-	if again := call(withSpare(list)); !slices.Equal(again, result) {
+	if again := call(withSpareOf(list, mark(-7))); !slices.Equal(again, result) {
 		t.Errorf("%s of %v = %v, and then %v", name, list, result, again)
 	}
 }
