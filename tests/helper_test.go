@@ -157,4 +157,7 @@ func checkApartOf[A comparable, R comparable](t *testing.T, name string, list []
 	if again := call(withSpareOf(list, mark(-7))); !slices.Equal(again, result) {
 		t.Errorf("%s of %v = %v, and then %v", name, list, result, again)
 	}
+	if slices.ContainsFunc(out[:cap(out)], func(x R) bool { return x != resultMark(-8) }) {
+		t.Errorf("%s of %v: the next call changes the result", name, list)
+	}
 }

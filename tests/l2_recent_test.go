@@ -295,7 +295,7 @@ func TestP016MoreRoomKeepsMore(t *testing.T) {
 
 func TestP135TracesThatFitAreThereTheSecondTime(t *testing.T) {
 	for _, trace := range traces() {
-		keys := len(distinct(trace))
+		keys := newKeys(t, trace)
 		twice := append(slices.Clone(trace), trace...)
 		if len(twice) > 24 {
 			continue
@@ -369,6 +369,20 @@ func TestRunFirstHitsKeysThatAreThere(t *testing.T) {
 			}
 		}
 	}
+}
+
+func TestP137FirstKeysAreKeysOfTheTrace(t *testing.T) {
+	forRuns(func(trace []int, room int) {
+		out, _ := impl.RunFirst(trace, room)
+		if !impl.ValidKeys(out, room) || len(out) != min(newKeys(t, trace), room) || len(distinct(out)) != len(out) {
+			t.Errorf("RunFirst(%v, %d) = %v", trace, room, out)
+		}
+		for _, key := range out {
+			if !slices.Contains(trace, key) {
+				t.Errorf("RunFirst(%v, %d) = %v: %d is no key of the trace", trace, room, out, key)
+			}
+		}
+	})
 }
 
 func TestLoopsAroundTheRoom(t *testing.T) {

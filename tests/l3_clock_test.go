@@ -385,7 +385,7 @@ func TestP028ClocksWithoutMarksAreQueues(t *testing.T) {
 
 func TestP140ClocksHitWhatComesAgain(t *testing.T) {
 	for _, trace := range traces() {
-		keys := len(distinct(trace))
+		keys := newKeys(t, trace)
 		for room := 1; room <= 8; room++ {
 			_, hits := impl.RunClock(trace, room)
 			if hits < 0 || hits > len(trace)-keys || keys <= room && hits != len(trace)-keys {

@@ -275,7 +275,7 @@ func TestP141TwoUsesMakeKeysSafe(t *testing.T) {
 
 func TestP142SmallTracesFitIntoTrials(t *testing.T) {
 	for _, trace := range traces() {
-		keys := len(distinct(trace))
+		keys := newKeys(t, trace)
 		for trial := max(keys, 1); trial <= 8; trial++ {
 			for safe := 1; safe <= 8; safe++ {
 				if s, hits := impl.RunSegments(trace, trial, safe); hits != len(trace)-keys || len(impl.KeysOf(s)) != keys {

@@ -355,7 +355,7 @@ func TestP048TracesRunKeyByKeyAlsoForAdaptiveLists(t *testing.T) {
 
 func TestP049SmallTracesFit(t *testing.T) {
 	for _, trace := range traces() {
-		keys := len(distinct(trace))
+		keys := newKeys(t, trace)
 		for room := max(keys, 1); room <= 8; room++ {
 			if a, hits := impl.RunLists(trace, room); hits != len(trace)-keys || len(cacheOf(a)) != keys {
 				t.Errorf("RunLists(%v, %d) = %v, %d", trace, room, a, hits)
@@ -366,7 +366,7 @@ func TestP049SmallTracesFit(t *testing.T) {
 
 func TestP149AdaptiveListsHitWhatComesAgain(t *testing.T) {
 	for _, trace := range traces() {
-		keys := len(distinct(trace))
+		keys := newKeys(t, trace)
 		for room := 1; room <= 8; room++ {
 			if a, hits := impl.RunLists(trace, room); hits < 0 || hits > len(trace)-keys || len(cacheOf(a)) != min(keys, room) {
 				t.Errorf("RunLists(%v, %d) = %v, %d", trace, room, a, hits)
