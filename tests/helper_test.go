@@ -161,3 +161,73 @@ func checkApartOf[A comparable, R comparable](t *testing.T, name string, list []
 		t.Errorf("%s of %v: the next call changes the result", name, list)
 	}
 }
+
+// whole returns a list with the places behind it.
+func whole(list []int) []int {
+	return list[:cap(list)]
+}
+
+// eachPart returns lists with each of them changed.
+func eachPart(parts [][]int, change func(list []int) []int) [][]int {
+	out := [][]int{}
+	for _, list := range parts {
+		out = append(out, change(list))
+	}
+	return out
+}
+
+// sameParts reports whether lists have the same numbers as others, in order.
+func sameParts(a [][]int, b [][]int) bool {
+	return slices.EqualFunc(a, b, slices.Equal[[]int])
+}
+
+// onlyNumber reports whether a list and the places behind it have nothing but a number.
+func onlyNumber(list []int, n int) bool {
+	return !slices.ContainsFunc(whole(list), func(x int) bool { return x != n })
+}
+
+// markParts fills lists of a result and the places behind them with a number each, and reports whether each of them has memory of its own.
+func markParts(parts [][]int) bool {
+	for place, list := range parts {
+		fill(whole(list), place)
+	}
+	for place, list := range parts {
+		if !onlyNumber(list, place) {
+			return false
+		}
+	}
+	return true
+}
+
+// checkPartsApart is checkApart for calls with several lists, and several lists in one result.
+func checkPartsApart(t *testing.T, name string, parts [][]int, call func(parts [][]int) [][]int) {
+	t.Helper()
+	given := eachPart(parts, withSpare)
+	out := call(given)
+	if !sameParts(eachPart(given, whole), eachPart(eachPart(parts, withSpare), whole)) {
+		t.Errorf("%s of %v modifies its argument: %v", name, parts, eachPart(given, whole))
+	}
+	result := eachPart(out, slices.Clone[[]int])
+	for _, list := range given {
+		fill(whole(list), -9)
+	}
+	if !sameParts(out, result) {
+		t.Errorf("%s of %v: the result %v follows its argument", name, parts, result)
+	}
+	if !markParts(out) {
+		t.Errorf("%s of %v: two lists of the result share memory", name, parts)
+	}
+	for _, list := range given {
+		if !onlyNumber(list, -9) {
+			t.Fatalf("%s of %v: the argument follows its result", name, parts)
+		}
+	}
+	if again := call(eachPart(parts, withSpare)); !sameParts(again, result) {
+		t.Errorf("%s of %v = %v, and then %v", name, parts, result, again)
+	}
+	for place, list := range out {
+		if !onlyNumber(list, place) {
+			t.Errorf("%s of %v: the next call changes the result", name, parts)
+		}
+	}
+}

@@ -69,13 +69,6 @@ func badSegments() []impl.Segments {
 	return out
 }
 
-// copySegments returns segments with memory of their own.
-func copySegments(s impl.Segments) impl.Segments {
-	s.New = slices.Clone(s.New)
-	s.Old = slices.Clone(s.Old)
-	return s
-}
-
 // sameSegments reports whether two segments are the same.
 func sameSegments(a impl.Segments, b impl.Segments) bool {
 	return a.Trial == b.Trial && a.Safe == b.Safe && slices.Equal(a.New, b.New) && slices.Equal(a.Old, b.Old)
@@ -362,47 +355,13 @@ func TestRunSegmentsOtherArguments(t *testing.T) {
 	}
 }
 
-// spareSegments returns segments in new memory with marked places behind their keys.
-func spareSegments(s impl.Segments) impl.Segments {
-	s.New = withSpare(s.New)
-	s.Old = withSpare(s.Old)
-	return s
-}
-
-// wholeSegments returns segments with the places behind their keys.
-func wholeSegments(s impl.Segments) impl.Segments {
-	s.New = s.New[:cap(s.New)]
-	s.Old = s.Old[:cap(s.Old)]
-	return s
-}
-
 // checkSegmentsApart fails if a call modifies its argument, if its result shares memory with it or in itself, or if it keeps memory for the next call.
 func checkSegmentsApart(t *testing.T, name string, s impl.Segments, call func(s impl.Segments) impl.Segments) {
 	t.Helper()
-	given := spareSegments(s)
-	out := call(given)
-	if !sameSegments(wholeSegments(given), wholeSegments(spareSegments(s))) {
-		t.Errorf("%s of %v modifies its argument: %v", name, s, wholeSegments(given))
-	}
-	result, whole, own := copySegments(out), wholeSegments(given), wholeSegments(out)
-	fill(whole.New, -9)
-	fill(whole.Old, -9)
-	if !sameSegments(out, result) {
-		t.Errorf("%s of %v: the result %v follows its argument", name, s, result)
-	}
-	fill(own.New, -8)
-	fill(own.Old, -6)
-	if slices.Contains(own.New, -6) {
-		t.Errorf("%s of %v: New and Old of the result share memory", name, s)
-	}
-	for _, n := range slices.Concat(whole.New, whole.Old) {
-		if n != -9 {
-			t.Fatalf("%s of %v: the argument follows its result", name, s)
-		}
-	}
-	if again := call(spareSegments(s)); !sameSegments(again, result) {
-		t.Errorf("%s of %v = %v, and then %v", name, s, result, again)
-	}
+	checkPartsApart(t, name, [][]int{s.New, s.Old}, func(parts [][]int) [][]int {
+		out := call(impl.Segments{Trial: s.Trial, Safe: s.Safe, New: parts[0], Old: parts[1]})
+		return [][]int{out.New, out.Old}
+	})
 }
 
 func TestSegmentsAreApart(t *testing.T) {

@@ -499,49 +499,15 @@ func partsOf(a impl.Lists) [][]int {
 	return [][]int{a.Once, a.Often, a.WasOnce, a.WasOften}
 }
 
-// changeParts returns adaptive lists with each of the four lists changed.
-func changeParts(a impl.Lists, change func(list []int) []int) impl.Lists {
-	a.Once, a.Often = change(a.Once), change(a.Often)
-	a.WasOnce, a.WasOften = change(a.WasOnce), change(a.WasOften)
-	return a
-}
-
-// whole returns a list with the places behind it.
-func whole(list []int) []int {
-	return list[:cap(list)]
+// withParts returns adaptive lists with other keys in the four lists.
+func withParts(a impl.Lists, parts [][]int) impl.Lists {
+	return lists(a.Room, a.Target, parts[0], parts[1], parts[2], parts[3])
 }
 
 // checkListsApart fails if a call modifies its argument, if its result shares memory with it or in itself, or if it keeps memory for the next call.
 func checkListsApart(t *testing.T, name string, a impl.Lists, call func(a impl.Lists) impl.Lists) {
 	t.Helper()
-	given := changeParts(a, withSpare)
-	out := call(given)
-	if !sameLists(changeParts(given, whole), changeParts(changeParts(a, withSpare), whole)) {
-		t.Errorf("%s of %v modifies its argument: %v", name, a, changeParts(given, whole))
-	}
-	result := copyLists(out)
-	for _, list := range partsOf(given) {
-		fill(whole(list), -9)
-	}
-	if !sameLists(out, result) {
-		t.Errorf("%s of %v: the result %v follows its argument", name, a, result)
-	}
-	for place, list := range partsOf(out) {
-		fill(whole(list), place)
-	}
-	for place, list := range partsOf(out) {
-		if slices.ContainsFunc(whole(list), func(n int) bool { return n != place }) {
-			t.Errorf("%s of %v: two lists of the result share memory", name, a)
-		}
-	}
-	for _, list := range partsOf(given) {
-		if slices.ContainsFunc(whole(list), func(n int) bool { return n != -9 }) {
-			t.Errorf("%s of %v: the argument follows its result", name, a)
-		}
-	}
-	if again := call(changeParts(a, withSpare)); !sameLists(again, result) {
-		t.Errorf("%s of %v = %v, and then %v", name, a, result, again)
-	}
+	checkPartsApart(t, name, partsOf(a), func(parts [][]int) [][]int { return partsOf(call(withParts(a, parts))) })
 }
 
 func TestAdaptiveListsAreApart(t *testing.T) {
