@@ -52,8 +52,8 @@ func forGates(test func(g impl.Gate, key int)) {
 	}
 }
 
-// forGateRuns calls a test with traces and both rooms.
-func forGateRuns(test func(trace []int, window int, room int)) {
+// forTwoRooms calls a test with traces and both rooms.
+func forTwoRooms(test func(trace []int, window int, room int)) {
 	for _, trace := range traces() {
 		for window := 1; window <= 8; window++ {
 			for room := 1; room <= 8; room++ {
@@ -273,7 +273,7 @@ func TestP158HitsPushNobodyOutThroughGates(t *testing.T) {
 }
 
 func TestP071TracesRunKeyByKeyAlsoForGates(t *testing.T) {
-	forGateRuns(func(trace []int, window int, room int) {
+	forTwoRooms(func(trace []int, window int, room int) {
 		out, hits := impl.RunGate(trace, window, room)
 		want, before, hit := impl.Gate{Window: window, Room: room, Sketch: impl.EmptySketch()}, 0, false
 		if last := len(trace) - 1; last >= 0 {
@@ -290,7 +290,7 @@ func TestP071TracesRunKeyByKeyAlsoForGates(t *testing.T) {
 }
 
 func TestP072SmallTracesFitThroughGates(t *testing.T) {
-	forGateRuns(func(trace []int, window int, room int) {
+	forTwoRooms(func(trace []int, window int, room int) {
 		keys := newKeys(t, trace)
 		if keys > window+room {
 			return
@@ -302,7 +302,7 @@ func TestP072SmallTracesFitThroughGates(t *testing.T) {
 }
 
 func TestP159GatesHitWhatComesAgain(t *testing.T) {
-	forGateRuns(func(trace []int, window int, room int) {
+	forTwoRooms(func(trace []int, window int, room int) {
 		g, hits := impl.RunGate(trace, window, room)
 		if hits < 0 || hits > len(trace)-newKeys(t, trace) || g.Added != len(trace)%16 {
 			t.Errorf("RunGate(%v, %d, %d) = %v, %d", trace, window, room, g, hits)
@@ -463,7 +463,7 @@ func TestTheNewSketchDecides(t *testing.T) {
 }
 
 func TestRunGate(t *testing.T) {
-	forGateRuns(func(trace []int, window int, room int) {
+	forTwoRooms(func(trace []int, window int, room int) {
 		want, hits := impl.Gate{Window: window, Room: room, Sketch: times(24, 0)}, 0
 		for _, key := range trace {
 			next, hit := gateAfter(want, key)
