@@ -372,12 +372,13 @@ func TestP027TracesRunKeyByKeyAlsoForClocks(t *testing.T) {
 func TestP028ClocksWithoutMarksAreQueues(t *testing.T) {
 	d := &dice{28}
 	for n := 0; n <= 24; n++ {
-		trace := d.keys(n, 31)
-		for room := 1; room <= 8; room++ {
-			c, hits := impl.RunClock(trace, room)
-			queue, _ := impl.RunFirst(trace, room)
-			if hits != 0 || !slices.Equal(append(slices.Clone(c.Keys[c.Hand:]), c.Keys[:c.Hand]...), queue) {
-				t.Errorf("RunClock(%v, %d) = %v, %d, want the keys %v", trace, room, c, hits, queue)
+		for _, trace := range [][]int{d.keys(n, 31), loopTrace(t, 24, n), loopTrace(t, 32, n), reversed(loopTrace(t, 32, n))} {
+			for room := 1; room <= 8; room++ {
+				c, hits := impl.RunClock(trace, room)
+				queue, _ := impl.RunFirst(trace, room)
+				if hits != 0 || len(queue) != min(n, room) || !slices.Equal(append(slices.Clone(c.Keys[c.Hand:]), c.Keys[:c.Hand]...), queue) {
+					t.Errorf("RunClock(%v, %d) = %v, %d, want the keys %v", trace, room, c, hits, queue)
+				}
 			}
 		}
 	}

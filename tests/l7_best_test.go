@@ -334,7 +334,7 @@ func TestP058NobodyMissesLessThanTheBest(t *testing.T) {
 func TestP153LoopsAreBadForRecentKeys(t *testing.T) {
 	for room := 1; room <= 8; room++ {
 		for length := 0; length <= 24; length++ {
-			trace := loop(room+1, length)
+			trace := loopTrace(t, room+1, length)
 			over, best := impl.MissesOver(trace, room), impl.BestHits(trace, room)
 			if over < 0 || over != best || over == 0 && room > 1 && length > room+1 {
 				t.Errorf("MissesOver(%v, %d) = %d, BestHits = %d", trace, room, over, best)
